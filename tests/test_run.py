@@ -1,0 +1,24 @@
+"""The document's own run."""
+
+import unittest
+
+from helper import RAYS, RUN, call, spoken
+
+
+class TheRun(unittest.TestCase):
+    def test_sums(self):
+        self.assertEqual(
+            spoken(call(0, RUN, RAYS)),
+            "2174311/720000000 -384841/360000000 147271/180000000 1/1500 11399/90000000 577/30000 13/15000",
+        )
+
+    def test_the_first_surface_alone_has_the_told_part(self):
+        first = RUN[:RUN.index("surface b")]
+        self.assertEqual(spoken(call(0, first, RAYS)), "1/4500 1/4500 1/4500 1/3000 1/1800 1/150 1/150")
+
+    def test_head_on_at_the_first(self):
+        self.assertEqual(call(0, RUN, ("1", "-1/10", "0", "1/10")), [-5])
+
+
+if __name__ == "__main__":
+    unittest.main()

@@ -1,0 +1,1 @@
+"""Third order: sums of a system, reckoned exactly."""
