@@ -1,4 +1,4 @@
-"""What the tests share: calls with plain texts, and the document's sums reckoned once more by its own words."""
+"""What the tests share: calls with plain texts, and the document's numbers reckoned once more by its own words."""
 
 import random
 from fractions import Fraction
@@ -16,6 +16,11 @@ GLASSES = {
     "flint": (Fraction(8, 5), Fraction(17, 10), Fraction(7, 5)),
     "water": (Fraction(4, 3), Fraction(27, 20), Fraction(13, 10)),
 }
+AIR = {"a": (Fraction(1), Fraction(1), Fraction(1))}
+LONGEST = 65536
+BAD_TEXT = "glass a:1,1,1;start a;stop s after 0;stop s after 0;"
+BAD_TEXT_FAULT = [-3, BAD_TEXT.rindex("s after"), 3]
+HEAD_ON = "glass a:1,1,1;start a;mirror m after 1 flat;"
 
 
 def octets(text):
@@ -26,6 +31,10 @@ def call(line, text, rays):
     return system.sums(line, octets(text), *[octets(ray) for ray in rays])
 
 
+def call_part(line, i, text, rays):
+    return system.part(line, i, octets(text), *[octets(ray) for ray in rays])
+
+
 def spoken(answer):
     """The text of an answer that is no refusal; it must say its own length."""
     if answer[0] != len(answer) - 1:
@@ -33,15 +42,27 @@ def spoken(answer):
     return bytes(answer[1:]).decode("ascii")
 
 
-def sums(line, text, rays):
-    """The seven sums as fractions, or the refusal as it stands."""
-    answer = call(line, text, [written(ray) for ray in rays])
+def numbers_of(answer):
+    """What is told as fractions, or the refusal as it stands."""
     if answer[0] < 0:
         return answer
     numbers = [Fraction(word) for word in spoken(answer).split(" ")]
     if spoken(answer) != " ".join([str(number) for number in numbers]):
         raise AssertionError(f"not told as exact texts: {spoken(answer)}")
     return numbers
+
+
+def sums(line, text, rays):
+    return numbers_of(call(line, text, [written(ray) for ray in rays]))
+
+
+def one_part(line, i, text, rays):
+    return numbers_of(call_part(line, i, text, [written(ray) for ray in rays]))
+
+
+def together(many):
+    """Sevens of numbers, added number by number."""
+    return [sum(column, Fraction(0)) for column in zip(*many)] or [Fraction(0)] * 7
 
 
 def written(number):
@@ -144,14 +165,24 @@ def parts(start, pieces, line, rays, glasses=None):
     return found, (y, v, z, w)
 
 
+def is_large(number):
+    return abs(number.numerator) >= 2 ** 4096 or number.denominator >= 2 ** 4096
+
+
+def told(numbers):
+    """The numbers, or why they are not told; None where they are none."""
+    if numbers is None:
+        return [-5]
+    return [-6] if any(is_large(number) for number in numbers) else numbers
+
+
 def expected(start, pieces, line, rays, glasses=None):
     found = parts(start, pieces, line, rays, glasses)[0]
-    if None in found:
-        return [-5]
-    totals = [sum(column, Fraction(0)) for column in zip(*found)] or [Fraction(0)] * 7
-    if any(abs(x.numerator) >= 2 ** 4096 or x.denominator >= 2 ** 4096 for x in totals):
-        return [-6]
-    return totals
+    return told(None if None in found else together(found))
+
+
+def expected_parts(start, pieces, line, rays, glasses=None):
+    return [told(numbers) for numbers in parts(start, pieces, line, rays, glasses)[0]]
 
 
 def any_number(chance, most, below=True):
@@ -178,3 +209,28 @@ def any_system(seed, most=6):
     pieces = [any_piece(chance) for place in range(chance.randint(0, most))]
     rays = [any_number(chance, 12) for place in range(4)]
     return chance.choice(list(GLASSES)), pieces, chance.randint(0, 2), rays
+
+
+def telescope(power):
+    """Two parabolas with one focus: light along the axis leaves as it came, with 2 ** power times the height."""
+    wide = Fraction(2) ** power
+    return [
+        Piece("mirror", 0, curve=-1, conic=-1),
+        Piece("mirror", (1 + wide) / 2, curve=1 / wide, conic=-1),
+    ]
+
+
+def telescopes(power):
+    """No part of these has any sum but 0 where the chief ray is the axis itself."""
+    most = 50 if power > 0 else -50
+    found = []
+    while power != 0:
+        step = most if abs(power) > 50 else power
+        found += telescope(step)
+        power -= step
+    return found
+
+
+def last_mirror(curve, conic=0):
+    """Light along the axis: its S1 is -2 c c c (1 + k) y y y y."""
+    return [Piece("mirror", 0, curve=curve, conic=conic)]

@@ -12,7 +12,7 @@ NODES = (
     "Module Expr Constant ImportFrom alias FunctionDef arguments arg ClassDef Assign AugAssign If While For Return "
     "Break Continue Pass Raise Try ExceptHandler Call Name Load Store Attribute Subscript Slice List Tuple Dict "
     "BinOp Add Sub Mult FloorDiv Mod Pow UnaryOp USub Not BoolOp And Or Compare Eq NotEq Lt LtE Gt GtE Is IsNot "
-    "In NotIn IfExp ListComp comprehension JoinedStr FormattedValue"
+    "In NotIn IfExp ListComp comprehension JoinedStr FormattedValue Lambda"
 ).split(" ")
 OWN_NAMES = (
     "len range enumerate zip min max sum abs sorted reversed int str bool list tuple dict set frozenset isinstance "

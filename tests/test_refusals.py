@@ -1,41 +1,14 @@
-"""Refusals, their order, the largest numbers told, and that nothing is changed or kept."""
+"""What sums refuses, in which order, and the largest numbers it tells."""
 
 import unittest
 from fractions import Fraction
 
-from helper import RAYS, RUN, Piece, call, expected, octets, spoken, sums, system_text
-from thirdsums import system
+from helper import (
+    AIR, BAD_TEXT, BAD_TEXT_FAULT, HEAD_ON, LONGEST, RAYS, RUN, Piece, call, expected, last_mirror, sums, system_text,
+    telescopes,
+)
 
 F = Fraction
-LONGEST = 65536
-AIR = {"a": (F(1), F(1), F(1))}
-BAD_TEXT = "glass a:1,1,1;start a;stop s after 0;stop s after 0;"
-HEAD_ON = "glass a:1,1,1;start a;mirror m after 1 flat;"
-
-
-def telescope(power):
-    """Two parabolas with one focus: light along the axis leaves as it came, with 2 ** power times the height."""
-    wide = F(2) ** power
-    return [
-        Piece("mirror", 0, curve=-1, conic=-1),
-        Piece("mirror", (1 + wide) / 2, curve=1 / wide, conic=-1),
-    ]
-
-
-def telescopes(power):
-    """No part of these has any sum but 0 where the chief ray is the axis itself."""
-    most = 50 if power > 0 else -50
-    found = []
-    while power != 0:
-        step = most if abs(power) > 50 else power
-        found += telescope(step)
-        power -= step
-    return found
-
-
-def last_mirror(curve, conic=0):
-    """Light along the axis: its S1 is -2 c c c (1 + k) y y y y."""
-    return [Piece("mirror", 0, curve=curve, conic=conic)]
 
 
 def along_the_axis(pieces):
@@ -67,8 +40,7 @@ class MinusOne(unittest.TestCase):
 
 class Order(unittest.TestCase):
     def test_minus_one_before_minus_three(self):
-        fault = [-3, BAD_TEXT.rindex("s after"), 3]
-        self.assertEqual(call(0, BAD_TEXT, RAYS), fault)
+        self.assertEqual(call(0, BAD_TEXT, RAYS), BAD_TEXT_FAULT)
         self.assertEqual(call(3, BAD_TEXT, RAYS), [-1])
         self.assertEqual(call(0, "!" * (LONGEST + 1), RAYS), [-1])
         for place in range(4):
@@ -181,70 +153,6 @@ class Long(unittest.TestCase):
         text = "".join(glasses) + "start g0;" + "".join(rows)
         rays = (f"{10 ** 18 - 1}/{10 ** 17 + 1}", "1/3", "-22/7", f"1/{10 ** 18 - 1}")
         self.assertEqual(call(1, text, rays), [-6])
-
-
-class Kept(list):
-    """A list that may be read alone."""
-
-    def refuse(self, *what):
-        raise AssertionError("what is handed in was changed")
-
-    append = extend = insert = remove = pop = clear = sort = reverse = refuse
-    __setitem__ = __delitem__ = __iadd__ = __imul__ = refuse
-
-
-class NothingChanged(unittest.TestCase):
-    CASES = (
-        (0, RUN, RAYS),
-        (2, RUN, ("-1.50", "2/4", "-0", "003")),
-        (3, RUN, RAYS),
-        (0, RUN, ("", "-", "1/0", "x")),
-        (0, BAD_TEXT, RAYS),
-        (0, HEAD_ON, ("1", "0", "0", "1")),
-        (0, system_text("a", telescopes(1100) + last_mirror(1), AIR), ("1", "0", "0", "0")),
-    )
-
-    def test_what_is_handed_in_is_unchanged(self):
-        for line, text, rays in self.CASES:
-            handed = [octets(text)] + [octets(ray) for ray in rays]
-            copies = [list(one) for one in handed]
-            system.sums(line, *handed)
-            self.assertEqual(handed, copies)
-
-    def test_not_for_a_while_either(self):
-        for line, text, rays in self.CASES:
-            self.assertEqual(
-                system.sums(line, Kept(octets(text)), *[Kept(octets(ray)) for ray in rays]),
-                call(line, text, rays),
-            )
-
-    def test_one_list_may_be_handed_in_more_than_once(self):
-        one = octets("1")
-        self.assertEqual(system.sums(0, octets(RUN), one, one, one, one), call(0, RUN, ("1", "1", "1", "1")))
-
-    def test_a_second_call_answers_the_same(self):
-        first = [call(*case) for case in self.CASES]
-        backward = [call(*case) for case in reversed(self.CASES)]
-        self.assertEqual(first, backward[::-1])
-
-    def test_an_answer_may_be_changed_by_who_asked(self):
-        for case in self.CASES:
-            answer = call(*case)
-            copy = list(answer)
-            answer.append(7)
-            answer[0] = 99
-            self.assertEqual(call(*case), copy)
-
-    def test_answers_are_lists_of_whole_numbers(self):
-        for case in self.CASES:
-            answer = call(*case)
-            self.assertIs(type(answer), list)
-            self.assertEqual({type(number) for number in answer}, {int})
-
-    def test_named_arguments(self):
-        handed = dict(zip("yvzw", [octets(ray) for ray in RAYS]))
-        answer = system.sums(line=0, t=octets(RUN), **handed)
-        self.assertEqual(spoken(answer).split(" ")[0], "2174311/720000000")
 
 
 if __name__ == "__main__":

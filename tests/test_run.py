@@ -2,7 +2,7 @@
 
 import unittest
 
-from helper import RAYS, RUN, call, spoken
+from helper import RAYS, RUN, call, call_part, spoken
 
 
 class TheRun(unittest.TestCase):
@@ -10,6 +10,11 @@ class TheRun(unittest.TestCase):
         self.assertEqual(
             spoken(call(0, RUN, RAYS)),
             "2174311/720000000 -384841/360000000 147271/180000000 1/1500 11399/90000000 577/30000 13/15000",
+        )
+
+    def test_part_0(self):
+        self.assertEqual(
+            spoken(call_part(0, 0, RUN, RAYS)), "1/4500 1/4500 1/4500 1/3000 1/1800 1/150 1/150",
         )
 
     def test_the_first_surface_alone_has_the_told_part(self):

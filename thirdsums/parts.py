@@ -7,7 +7,7 @@ but to bring their terms down at every step takes far longer than all else.
 """
 
 from thirdsums.exact import common_divisor
-from thirdsums.refusals import NoSums
+from thirdsums.refusals import NoElement, NoPart
 
 
 # The product of all that a step divides by: so each division on the way comes out even.
@@ -69,38 +69,53 @@ def shaped_part(station, y, a, z, b):
 
 
 # S1 to S5 on the fourth power of the length scale, C1 and C2 on its square, all on the
-# station's own scale too; None where the part is none.
+# station's own scale too.
 def part_of(station, marginal, chief):
     if station.stop:
         return [0, 0, 0, 0, 0, 0, 0]
     if marginal[1] == 0:
-        return None
+        raise NoPart()
     return shaped_part(station, marginal[0], marginal[1], chief[0], chief[1])
 
 
-def parts_of(stations, lengths, rays):
+# Of each station where the marginal ray meets it, and where the chief ray does.
+def meetings_of(stations, lengths, rays):
     begun = [on_scale(number, lengths) for number in rays]
     marginal = follow(stations, begun[0], begun[1])
     chief = follow(stations, begun[2], begun[3])
-    return [part_of(station, marginal[i], chief[i]) for i, station in enumerate(stations)]
+    return list(zip(marginal, chief))
 
 
 def add_parts(parts, scales, common):
     totals = [0, 0, 0, 0, 0, 0, 0]
     for part, scale in zip(parts, scales):
-        if part is None:
-            raise NoSums()
         factor = common // scale
         totals = [total + number * factor for total, number in zip(totals, part)]
     return totals
 
 
 # Seven pairs of a numerator and a denominator, not yet in least terms.
+def as_pairs(numbers, lengths, scale):
+    second = lengths * lengths
+    bottoms = [second * second * scale] * 5 + [second * scale] * 2
+    return list(zip(numbers, bottoms))
+
+
 def sums_of(stations, rays):
     lengths = length_scale(stations, rays)
+    meetings = meetings_of(stations, lengths, rays)
+    parts = [part_of(station, at[0], at[1]) for station, at in zip(stations, meetings)]
     scales = [station_scale(station) for station in stations]
     common = least_multiple(scales)
-    totals = add_parts(parts_of(stations, lengths, rays), scales, common)
-    second = lengths * lengths
-    bottoms = [second * second * common] * 5 + [second * common] * 2
-    return list(zip(totals, bottoms))
+    return as_pairs(add_parts(parts, scales, common), lengths, common)
+
+
+# What stands behind the station asked for bears on its part in nothing: the rays are
+# not followed so far.
+def single_part(stations, rays, i):
+    if i >= len(stations):
+        raise NoElement()
+    reached = stations[:i + 1]
+    lengths = length_scale(reached, rays)
+    at = meetings_of(reached, lengths, rays)[i]
+    return as_pairs(part_of(stations[i], at[0], at[1]), lengths, station_scale(stations[i]))

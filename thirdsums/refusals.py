@@ -13,8 +13,13 @@ class Fault(Exception):
         self.kind = kind
 
 
-# -5: sums that are none.
-class NoSums(Exception):
+# -2: no such element.
+class NoElement(Exception):
+    pass
+
+
+# -5: a part that is none, and with it the sums.
+class NoPart(Exception):
     pass
 
 

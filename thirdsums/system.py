@@ -1,9 +1,9 @@
 """The calls."""
 
 from thirdsums.digits import handed_over
-from thirdsums.parts import sums_of
+from thirdsums.parts import single_part, sums_of
 from thirdsums.reading import read_system
-from thirdsums.refusals import Fault, NoSums, NotTaken, TooLarge
+from thirdsums.refusals import Fault, NoElement, NoPart, NotTaken, TooLarge
 from thirdsums.stations import stations_of
 from thirdsums.telling import told
 
@@ -16,21 +16,29 @@ def refuse_sizes(line, t):
         raise NotTaken()
 
 
-def reckon_sums(line, t, rays):
-    refuse_sizes(line, t)
-    numbers = [handed_over(text) for text in rays]
-    stations = stations_of(read_system(t), line)
-    return told(sums_of(stations, numbers))
-
-
-def sums(line, t, y, v, z, w):
+# What a call has reckoned of the system's stations and the numbers handed over, told;
+# or why it is refused. The steps stand in the order in which refusals are told.
+def answered(line, t, texts, reckon):
     try:
-        return reckon_sums(line, t, [y, v, z, w])
+        refuse_sizes(line, t)
+        numbers = [handed_over(text) for text in texts]
+        stations = stations_of(read_system(t), line)
+        return told(reckon(stations, numbers))
     except NotTaken:
         return [-1]
     except Fault as fault:
         return [-3, fault.place, fault.kind]
-    except NoSums:
+    except NoElement:
+        return [-2]
+    except NoPart:
         return [-5]
     except TooLarge:
         return [-6]
+
+
+def sums(line, t, y, v, z, w):
+    return answered(line, t, [y, v, z, w], sums_of)
+
+
+def part(line, i, t, y, v, z, w):
+    return answered(line, t, [y, v, z, w], lambda stations, rays: single_part(stations, rays, i))
