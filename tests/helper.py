@@ -35,6 +35,10 @@ def call_part(line, i, text, rays):
     return system.part(line, i, octets(text), *[octets(ray) for ray in rays])
 
 
+def call_shift(line, text, rays, e):
+    return system.shift(line, octets(text), *[octets(ray) for ray in rays], octets(e))
+
+
 def spoken(answer):
     """The text of an answer that is no refusal; it must say its own length."""
     if answer[0] != len(answer) - 1:
@@ -58,6 +62,10 @@ def sums(line, text, rays):
 
 def one_part(line, i, text, rays):
     return numbers_of(call_part(line, i, text, [written(ray) for ray in rays]))
+
+
+def shift(line, text, rays, e):
+    return numbers_of(call_shift(line, text, [written(ray) for ray in rays], written(e)))
 
 
 def together(many):
@@ -165,6 +173,20 @@ def parts(start, pieces, line, rays, glasses=None):
     return found, (y, v, z, w)
 
 
+def shifted(found, e):
+    """Word for word what the document calls sums shifted by e."""
+    s1, s2, s3, s4, s5, c1, c2 = found
+    return [
+        s1,
+        s2 + e * s1,
+        s3 + 2 * e * s2 + e * e * s1,
+        s4,
+        s5 + e * (3 * s3 + s4) + 3 * e * e * s2 + e * e * e * s1,
+        c1,
+        c2 + e * c1,
+    ]
+
+
 def is_large(number):
     return abs(number.numerator) >= 2 ** 4096 or number.denominator >= 2 ** 4096
 
@@ -176,9 +198,10 @@ def told(numbers):
     return [-6] if any(is_large(number) for number in numbers) else numbers
 
 
-def expected(start, pieces, line, rays, glasses=None):
+def expected(start, pieces, line, rays, glasses=None, e=0):
+    """The sums, shifted by e."""
     found = parts(start, pieces, line, rays, glasses)[0]
-    return told(None if None in found else together(found))
+    return told(None if None in found else shifted(together(found), Fraction(e)))
 
 
 def expected_parts(start, pieces, line, rays, glasses=None):

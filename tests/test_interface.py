@@ -14,6 +14,7 @@ ALONG = ("1", "0", "0", "0")
 ARGUMENTS = {
     "sums": ["line", "t", "y", "v", "z", "w"],
     "part": ["line", "i", "t", "y", "v", "z", "w"],
+    "shift": ["line", "t", "y", "v", "z", "w", "e"],
 }
 CASES = (
     ("sums", 0, RUN, *RAYS),
@@ -31,9 +32,22 @@ CASES = (
     ("part", 0, 2, RUN, *RAYS),
     ("part", 0, 0, HEAD_ON, "1", "0", "0", "1"),
     ("part", 0, len(telescopes(1100)), LARGE, *ALONG),
+    ("shift", 0, RUN, *RAYS, "1/2"),
+    ("shift", 1, RUN, "-1.50", "2/4", "-0", "003", "-02.50"),
+    ("shift", 3, RUN, *RAYS, "1/2"),
+    ("shift", 0, RUN, *RAYS, "1/"),
+    ("shift", 0, RUN, "", "-", "1/0", "x", ""),
+    ("shift", 0, BAD_TEXT, *RAYS, "1/2"),
+    ("shift", 0, HEAD_ON, "1", "0", "0", "1", "-1"),
+    ("shift", 0, LARGE, *ALONG, "3"),
 )
 # The first case of each call is answered with this.
-BEGINS = {"sums": "2174311/720000000 -384841/360000000 ", "part": "1/4500 1/4500 "}
+BEGINS = {
+    "sums": "2174311/720000000 -384841/360000000 ",
+    "part": "1/4500 1/4500 ",
+    "shift": "2174311/720000000 211649/480000000 ",
+}
+REFUSALS = {"sums": {-1, -3, -5, -6}, "part": {-1, -3, -2, -5, -6}, "shift": {-1, -3, -5, -6}}
 
 
 def given(case, kind=list):
@@ -67,7 +81,7 @@ class Interface(unittest.TestCase):
             self.assertTrue(spoken(answer).startswith(BEGINS[name]), spoken(answer))
 
     def test_each_refusal_is_among_the_cases(self):
-        for name, refusals in (("sums", {-1, -3, -5, -6}), ("part", {-1, -3, -2, -5, -6})):
+        for name, refusals in REFUSALS.items():
             firsts = {ask(case)[0] for case in CASES if case[0] == name}
             self.assertEqual({first for first in firsts if first < 0}, refusals)
 
@@ -99,6 +113,7 @@ class NothingChanged(unittest.TestCase):
         ones = ("1", "1", "1", "1")
         self.assertEqual(system.sums(0, octets(RUN), one, one, one, one), ask(("sums", 0, RUN, *ones)))
         self.assertEqual(system.part(0, 1, octets(RUN), one, one, one, one), ask(("part", 0, 1, RUN, *ones)))
+        self.assertEqual(system.shift(0, octets(RUN), one, one, one, one, one), ask(("shift", 0, RUN, *ones, "1")))
 
 
 class NothingKept(unittest.TestCase):

@@ -6,7 +6,7 @@ A series is a list of four fractions, the coefficients of 1, e, e e, e e e.
 import unittest
 from fractions import Fraction
 
-from helper import Piece, crossings, parts, sums, system_text
+from helper import Piece, crossings, parts, shift, sums, system_text
 from test_sums import SYSTEMS
 
 F = Fraction
@@ -103,9 +103,9 @@ def off(found, angle, a, b, h):
 
 
 class RealRays(unittest.TestCase):
-    def check(self, start, pieces, line, rays):
+    def check(self, start, pieces, line, rays, found=None):
         y, v, z, w = parts(start, pieces, line, rays)[1]
-        found = sums(line, system_text(start, pieces), rays)
+        found = found or sums(line, system_text(start, pieces), rays)
         for a, b, h in TURNS:
             point, way, n = follow(start, pieces, line, rays, (a, b, h))
             image = walk(point, way, series(-y * n / v))
@@ -122,6 +122,23 @@ class RealRays(unittest.TestCase):
         lens = [Piece("surface", 1, "flint", F(1, 4), F(-2)), Piece("surface", 1, "air", F(-1, 6), F(1, 2))]
         for chief in ((F(0), F(1, 7)), (F(2), F(1, 7)), (F(-1), F(0))):
             self.check("air", lens, 0, (F(1), F(1, 9)) + chief)
+
+    def test_shifted_sums_say_the_same_of_the_same_rays(self):
+        # h of the shifted chief ray holds e h of the marginal one.
+        for pieces in SYSTEMS:
+            text = system_text("air", pieces)
+            angle = parts("air", pieces, 1, RAYS)[1][1]
+            plain = sums(1, text, RAYS)
+            for e in (F(1, 2), F(-3), F(7, 5)):
+                found = shift(1, text, RAYS, e)
+                for a, b, h in TURNS:
+                    self.assertEqual(off(found, angle, a, b, h), off(plain, angle, a, b + e * h, h))
+
+    def test_real_rays_come_where_shifted_sums_say(self):
+        y, v, z, w = RAYS
+        for pieces in SYSTEMS:
+            for e in (F(1, 2), F(-3)):
+                self.check("air", pieces, 0, (y, v, z + e * y, w + e * v), shift(0, system_text("air", pieces), RAYS, e))
 
     def test_light_that_comes_in_glass(self):
         self.check("water", SYSTEMS[1], 0, RAYS)

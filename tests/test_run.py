@@ -2,7 +2,7 @@
 
 import unittest
 
-from helper import RAYS, RUN, call, call_part, spoken
+from helper import RAYS, RUN, call, call_part, call_shift, spoken
 
 
 class TheRun(unittest.TestCase):
@@ -21,8 +21,17 @@ class TheRun(unittest.TestCase):
         first = RUN[:RUN.index("surface b")]
         self.assertEqual(spoken(call(0, first, RAYS)), "1/4500 1/4500 1/4500 1/3000 1/1800 1/150 1/150")
 
+    def test_shift_by_a_half(self):
+        self.assertEqual(
+            spoken(call_shift(0, RUN, RAYS, "1/2")),
+            "2174311/720000000 211649/480000000 483973/960000000 1/1500 808307/640000000 577/30000 629/60000",
+        )
+
     def test_head_on_at_the_first(self):
-        self.assertEqual(call(0, RUN, ("1", "-1/10", "0", "1/10")), [-5])
+        head_on = ("1", "-1/10", "0", "1/10")
+        self.assertEqual(call(0, RUN, head_on), [-5])
+        self.assertEqual(call_part(0, 0, RUN, head_on), [-5])
+        self.assertEqual(call_shift(0, RUN, head_on, "1/2"), [-5])
 
 
 if __name__ == "__main__":

@@ -3,7 +3,7 @@
 import unittest
 from fractions import Fraction
 
-from helper import GLASSES, Piece, any_system, call, expected, parts, spoken, sums, system_text
+from helper import GLASSES, Piece, any_system, call, expected, parts, shifted, spoken, sums, system_text
 
 F = Fraction
 SINGLET = [Piece("surface", 0, "crown", F(1, 10)), Piece("surface", 1, "air", F(-1, 10))]
@@ -33,19 +33,6 @@ RAYS = (F(1), F(1, 20), F(-1, 3), F(1, 10))
 def combined(rays, e):
     y, v, z, w = rays
     return (y, v, z + e * y, w + e * v)
-
-
-def shifted(found, e):
-    s1, s2, s3, s4, s5, c1, c2 = found
-    return [
-        s1,
-        s2 + e * s1,
-        s3 + 2 * e * s2 + e * e * s1,
-        s4,
-        s5 + e * (3 * s3 + s4) + 3 * e * e * s2 + e * e * e * s1,
-        c1,
-        c2 + e * c1,
-    ]
 
 
 def larger(pieces, k):

@@ -4,6 +4,7 @@ from thirdsums.digits import handed_over
 from thirdsums.parts import single_part, sums_of
 from thirdsums.reading import read_system
 from thirdsums.refusals import Fault, NoElement, NoPart, NotTaken, TooLarge
+from thirdsums.shifting import shifted_sums
 from thirdsums.stations import stations_of
 from thirdsums.telling import told
 
@@ -42,3 +43,7 @@ def sums(line, t, y, v, z, w):
 
 def part(line, i, t, y, v, z, w):
     return answered(line, t, [y, v, z, w], lambda stations, rays: single_part(stations, rays, i))
+
+
+def shift(line, t, y, v, z, w, e):
+    return answered(line, t, [y, v, z, w, e], lambda stations, given: shifted_sums(stations, given[:4], given[4]))
