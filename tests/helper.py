@@ -39,6 +39,10 @@ def call_shift(line, text, rays, e):
     return system.shift(line, octets(text), *[octets(ray) for ray in rays], octets(e))
 
 
+def call_off(line, text, rays, turn):
+    return system.off(line, octets(text), *[octets(number) for number in (*rays, *turn)])
+
+
 def spoken(answer):
     """The text of an answer that is no refusal; it must say its own length."""
     if answer[0] != len(answer) - 1:
@@ -66,6 +70,10 @@ def one_part(line, i, text, rays):
 
 def shift(line, text, rays, e):
     return numbers_of(call_shift(line, text, [written(ray) for ray in rays], written(e)))
+
+
+def off(line, text, rays, turn):
+    return numbers_of(call_off(line, text, [written(ray) for ray in rays], [written(number) for number in turn]))
 
 
 def together(many):
@@ -187,6 +195,14 @@ def shifted(found, e):
     ]
 
 
+def offset(found, angle, a, b, h):
+    """Word for word what the document calls off, with the marginal ray's angle behind all."""
+    s1, s2, s3, s4, s5 = found[:5]
+    across = s1 * (a * a + b * b) * a + 2 * s2 * a * b * h + (s3 + s4) * a * h * h
+    along = s1 * (a * a + b * b) * b + s2 * (a * a + 3 * b * b) * h + (3 * s3 + s4) * b * h * h + s5 * h * h * h
+    return [across / (2 * angle), along / (2 * angle)]
+
+
 def is_large(number):
     return abs(number.numerator) >= 2 ** 4096 or number.denominator >= 2 ** 4096
 
@@ -206,6 +222,13 @@ def expected(start, pieces, line, rays, glasses=None, e=0):
 
 def expected_parts(start, pieces, line, rays, glasses=None):
     return [told(numbers) for numbers in parts(start, pieces, line, rays, glasses)[0]]
+
+
+def expected_off(start, pieces, line, rays, turn, glasses=None):
+    found, ends = parts(start, pieces, line, rays, glasses)
+    if None in found or ends[1] == 0:
+        return told(None)
+    return told(offset(together(found), ends[1], *[Fraction(number) for number in turn]))
 
 
 def any_number(chance, most, below=True):

@@ -10,11 +10,13 @@ from helper import AIR, BAD_TEXT, HEAD_ON, RAYS, RUN, last_mirror, octets, spoke
 from thirdsums import system
 
 LARGE = system_text("a", telescopes(1100) + last_mirror(1), AIR)
+LARGER = system_text("a", telescopes(1365) + last_mirror(2), AIR)
 ALONG = ("1", "0", "0", "0")
 ARGUMENTS = {
     "sums": ["line", "t", "y", "v", "z", "w"],
     "part": ["line", "i", "t", "y", "v", "z", "w"],
     "shift": ["line", "t", "y", "v", "z", "w", "e"],
+    "off": ["line", "t", "y", "v", "z", "w", "p", "q", "h"],
 }
 CASES = (
     ("sums", 0, RUN, *RAYS),
@@ -40,14 +42,29 @@ CASES = (
     ("shift", 0, BAD_TEXT, *RAYS, "1/2"),
     ("shift", 0, HEAD_ON, "1", "0", "0", "1", "-1"),
     ("shift", 0, LARGE, *ALONG, "3"),
+    ("off", 0, RUN, *RAYS, "0", "1", "0"),
+    ("off", 1, RUN, "-1.50", "2/4", "-0", "003", "-02.50", "1/3", "-7"),
+    ("off", 3, RUN, *RAYS, "0", "1", "0"),
+    ("off", 0, RUN, *RAYS, "0", "1", "1/"),
+    ("off", 0, RUN, "", "-", "1/0", "x", "", ".", "/"),
+    ("off", 0, BAD_TEXT, *RAYS, "0", "1", "0"),
+    ("off", 0, HEAD_ON, "1", "1", "0", "1", "0", "1", "0"),
+    ("off", 0, HEAD_ON, "1", "0", "0", "1", "0", "1", "0"),
+    ("off", 0, LARGER, *ALONG, "0", "1", "0"),
 )
 # The first case of each call is answered with this.
 BEGINS = {
     "sums": "2174311/720000000 -384841/360000000 ",
     "part": "1/4500 1/4500 ",
     "shift": "2174311/720000000 211649/480000000 ",
+    "off": "0 -2174311/141600000",
 }
-REFUSALS = {"sums": {-1, -3, -5, -6}, "part": {-1, -3, -2, -5, -6}, "shift": {-1, -3, -5, -6}}
+REFUSALS = {
+    "sums": {-1, -3, -5, -6},
+    "part": {-1, -3, -2, -5, -6},
+    "shift": {-1, -3, -5, -6},
+    "off": {-1, -3, -5, -6},
+}
 
 
 def given(case, kind=list):
@@ -114,6 +131,7 @@ class NothingChanged(unittest.TestCase):
         self.assertEqual(system.sums(0, octets(RUN), one, one, one, one), ask(("sums", 0, RUN, *ones)))
         self.assertEqual(system.part(0, 1, octets(RUN), one, one, one, one), ask(("part", 0, 1, RUN, *ones)))
         self.assertEqual(system.shift(0, octets(RUN), one, one, one, one, one), ask(("shift", 0, RUN, *ones, "1")))
+        self.assertEqual(system.off(0, octets(RUN), *[one] * 7), ask(("off", 0, RUN, *ones, "1", "1", "1")))
 
 
 class NothingKept(unittest.TestCase):

@@ -1,4 +1,4 @@
-"""Promise 6: real rays, followed as power series in e up to e e e, come where the sums say.
+"""Promise 6: real rays, followed as power series in e up to e e e, come where the sums and off say.
 
 A series is a list of four fractions, the coefficients of 1, e, e e, e e e.
 """
@@ -6,7 +6,7 @@ A series is a list of four fractions, the coefficients of 1, e, e e, e e e.
 import unittest
 from fractions import Fraction
 
-from helper import Piece, crossings, parts, shift, sums, system_text
+from helper import Piece, crossings, off, offset, parts, shift, sums, system_text
 from test_sums import SYSTEMS
 
 F = Fraction
@@ -95,22 +95,19 @@ def follow(start, pieces, line, rays, turn):
     return point, way, found[-1][3][line]
 
 
-def off(found, angle, a, b, h):
-    s1, s2, s3, s4, s5 = found[:5]
-    across = s1 * (a * a + b * b) * a + 2 * s2 * a * b * h + (s3 + s4) * a * h * h
-    along = s1 * (a * a + b * b) * b + s2 * (a * a + 3 * b * b) * h + (3 * s3 + s4) * b * h * h + s5 * h * h * h
-    return across / (2 * angle), along / (2 * angle)
-
-
 class RealRays(unittest.TestCase):
     def check(self, start, pieces, line, rays, found=None):
         y, v, z, w = parts(start, pieces, line, rays)[1]
-        found = found or sums(line, system_text(start, pieces), rays)
+        text = system_text(start, pieces)
+        found = found or sums(line, text, rays)
         for a, b, h in TURNS:
             point, way, n = follow(start, pieces, line, rays, (a, b, h))
             image = walk(point, way, series(-y * n / v))
             self.assertEqual([x[1] for x in image], [0, h * (z - y * w / v)])
-            self.assertEqual((image[0][3], image[1][3]), off(found, v, a, b, h))
+            self.assertEqual([(x[0], x[2]) for x in image], [(0, 0), (0, 0)])
+            third = [x[3] for x in image]
+            self.assertEqual(offset(found, v, a, b, h), third)
+            self.assertEqual(off(line, text, rays, (a, b, h)), third)
 
     def test_each_system_on_each_line(self):
         for pieces in SYSTEMS:
@@ -132,7 +129,7 @@ class RealRays(unittest.TestCase):
             for e in (F(1, 2), F(-3), F(7, 5)):
                 found = shift(1, text, RAYS, e)
                 for a, b, h in TURNS:
-                    self.assertEqual(off(found, angle, a, b, h), off(plain, angle, a, b + e * h, h))
+                    self.assertEqual(offset(found, angle, a, b, h), offset(plain, angle, a, b + e * h, h))
 
     def test_real_rays_come_where_shifted_sums_say(self):
         y, v, z, w = RAYS

@@ -2,7 +2,7 @@
 
 import unittest
 
-from helper import RAYS, RUN, call, call_part, call_shift, spoken
+from helper import RAYS, RUN, call, call_off, call_part, call_shift, spoken
 
 
 class TheRun(unittest.TestCase):
@@ -27,11 +27,15 @@ class TheRun(unittest.TestCase):
             "2174311/720000000 211649/480000000 483973/960000000 1/1500 808307/640000000 577/30000 629/60000",
         )
 
+    def test_off_of_one_along(self):
+        self.assertEqual(spoken(call_off(0, RUN, RAYS, ("0", "1", "0"))), "0 -2174311/141600000")
+
     def test_head_on_at_the_first(self):
         head_on = ("1", "-1/10", "0", "1/10")
         self.assertEqual(call(0, RUN, head_on), [-5])
         self.assertEqual(call_part(0, 0, RUN, head_on), [-5])
         self.assertEqual(call_shift(0, RUN, head_on, "1/2"), [-5])
+        self.assertEqual(call_off(0, RUN, head_on, ("0", "1", "0")), [-5])
 
 
 if __name__ == "__main__":

@@ -7,7 +7,7 @@ but to bring their terms down at every step takes far longer than all else.
 """
 
 from thirdsums.exact import common_divisor
-from thirdsums.refusals import NoElement, NoPart
+from thirdsums.refusals import NoElement, NotThere
 
 
 # The product of all that a step divides by: so each division on the way comes out even.
@@ -74,7 +74,7 @@ def part_of(station, marginal, chief):
     if station.stop:
         return [0, 0, 0, 0, 0, 0, 0]
     if marginal[1] == 0:
-        raise NoPart()
+        raise NotThere()
     return shaped_part(station, marginal[0], marginal[1], chief[0], chief[1])
 
 

@@ -18,8 +18,8 @@ class NoElement(Exception):
     pass
 
 
-# -5: a part that is none, and with it the sums.
-class NoPart(Exception):
+# -5: a part that is none, and with it the sums; for off, a V of 0.
+class NotThere(Exception):
     pass
 
 

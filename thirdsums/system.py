@@ -1,9 +1,10 @@
 """The calls."""
 
 from thirdsums.digits import handed_over
+from thirdsums.offset import offsets
 from thirdsums.parts import single_part, sums_of
 from thirdsums.reading import read_system
-from thirdsums.refusals import Fault, NoElement, NoPart, NotTaken, TooLarge
+from thirdsums.refusals import Fault, NoElement, NotTaken, NotThere, TooLarge
 from thirdsums.shifting import shifted_sums
 from thirdsums.stations import stations_of
 from thirdsums.telling import told
@@ -31,7 +32,7 @@ def answered(line, t, texts, reckon):
         return [-3, fault.place, fault.kind]
     except NoElement:
         return [-2]
-    except NoPart:
+    except NotThere:
         return [-5]
     except TooLarge:
         return [-6]
@@ -47,3 +48,8 @@ def part(line, i, t, y, v, z, w):
 
 def shift(line, t, y, v, z, w, e):
     return answered(line, t, [y, v, z, w, e], lambda stations, given: shifted_sums(stations, given[:4], given[4]))
+
+
+def off(line, t, y, v, z, w, p, q, h):
+    texts = [y, v, z, w, p, q, h]
+    return answered(line, t, texts, lambda stations, given: offsets(stations, given[:4], given[4:]))
