@@ -43,6 +43,10 @@ def call_off(line, text, rays, turn):
     return system.off(line, octets(text), *[octets(number) for number in (*rays, *turn)])
 
 
+def call_petzval(line, text):
+    return system.petzval(line, octets(text))
+
+
 def spoken(answer):
     """The text of an answer that is no refusal; it must say its own length."""
     if answer[0] != len(answer) - 1:
@@ -74,6 +78,10 @@ def shift(line, text, rays, e):
 
 def off(line, text, rays, turn):
     return numbers_of(call_off(line, text, [written(ray) for ray in rays], [written(number) for number in turn]))
+
+
+def petzval(line, text):
+    return numbers_of(call_petzval(line, text))
 
 
 def together(many):
@@ -203,6 +211,15 @@ def offset(found, angle, a, b, h):
     return [across / (2 * angle), along / (2 * angle)]
 
 
+def field(start, pieces, line, glasses=None):
+    """Word for word what the document calls Petzval's sum."""
+    total = Fraction(0)
+    for piece, gap, before, behind in crossings(start, pieces, line, glasses):
+        if piece.word != "stop":
+            total += piece.curve * (1 / behind[line] - 1 / before[line])
+    return total
+
+
 def is_large(number):
     return abs(number.numerator) >= 2 ** 4096 or number.denominator >= 2 ** 4096
 
@@ -280,3 +297,17 @@ def telescopes(power):
 def last_mirror(curve, conic=0):
     """Light along the axis: its S1 is -2 c c c (1 + k) y y y y."""
     return [Piece("mirror", 0, curve=curve, conic=conic)]
+
+
+def long_glasses(count):
+    glasses = dict(AIR)
+    for i in range(count):
+        index = Fraction(10 ** 17 + 60 * i + 1, 10 ** 16 + 14 * i + 3)
+        glasses[f"g{i}"] = (index, Fraction(1), Fraction(2))
+    return glasses
+
+
+def long_surfaces(count):
+    """Petzval's sum of these grows by some hundred bits with each, in numerator and denominator."""
+    found = [Piece("surface", 0, f"g{i}", Fraction(1, 10 ** 17 + 36 * i + 19)) for i in range(count)]
+    return found + [Piece("surface", 0, "a")]

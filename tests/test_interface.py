@@ -6,17 +6,22 @@ A case is a call's name and its arguments, with plain texts in the place of list
 import inspect
 import unittest
 
-from helper import AIR, BAD_TEXT, HEAD_ON, RAYS, RUN, last_mirror, octets, spoken, system_text, telescopes
+from helper import (
+    AIR, BAD_TEXT, HEAD_ON, LONGEST, RAYS, RUN, last_mirror, long_glasses, long_surfaces, octets, spoken, system_text,
+    telescopes,
+)
 from thirdsums import system
 
 LARGE = system_text("a", telescopes(1100) + last_mirror(1), AIR)
 LARGER = system_text("a", telescopes(1365) + last_mirror(2), AIR)
+LONG = system_text("a", long_surfaces(60), long_glasses(60))
 ALONG = ("1", "0", "0", "0")
 ARGUMENTS = {
     "sums": ["line", "t", "y", "v", "z", "w"],
     "part": ["line", "i", "t", "y", "v", "z", "w"],
     "shift": ["line", "t", "y", "v", "z", "w", "e"],
     "off": ["line", "t", "y", "v", "z", "w", "p", "q", "h"],
+    "petzval": ["line", "t"],
 }
 CASES = (
     ("sums", 0, RUN, *RAYS),
@@ -51,6 +56,13 @@ CASES = (
     ("off", 0, HEAD_ON, "1", "1", "0", "1", "0", "1", "0"),
     ("off", 0, HEAD_ON, "1", "0", "0", "1", "0", "1", "0"),
     ("off", 0, LARGER, *ALONG, "0", "1", "0"),
+    ("petzval", 0, RUN),
+    ("petzval", 2, RUN),
+    ("petzval", 3, RUN),
+    ("petzval", 0, " " * (LONGEST + 1)),
+    ("petzval", 0, BAD_TEXT),
+    ("petzval", 0, HEAD_ON),
+    ("petzval", 0, LONG),
 )
 # The first case of each call is answered with this.
 BEGINS = {
@@ -58,12 +70,14 @@ BEGINS = {
     "part": "1/4500 1/4500 ",
     "shift": "2174311/720000000 211649/480000000 ",
     "off": "0 -2174311/141600000",
+    "petzval": "-1/15",
 }
 REFUSALS = {
     "sums": {-1, -3, -5, -6},
     "part": {-1, -3, -2, -5, -6},
     "shift": {-1, -3, -5, -6},
     "off": {-1, -3, -5, -6},
+    "petzval": {-1, -3, -6},
 }
 
 

@@ -1,21 +1,22 @@
-"""Promise 6: real rays, followed as power series in e up to e e e, come where the sums and off say.
+"""Promise 6: real rays, followed as power series in e, come where the sums and off say.
 
-A series is a list of four fractions, the coefficients of 1, e, e e, e e e.
+A series is a list of five fractions, the coefficients of 1, e, e e, e e e, e e e e.
 """
 
 import unittest
 from fractions import Fraction
 
-from helper import Piece, crossings, off, offset, parts, shift, sums, system_text
+from helper import Piece, any_system, crossings, off, offset, parts, shift, sums, system_text
 from test_sums import SYSTEMS
 
 F = Fraction
+TERMS = 5
 RAYS = (F(1), F(1, 20), F(-1, 3), F(1, 10))
 TURNS = ((0, 1, 0), (1, 0, 0), (0, 0, 1), (0, 1, 1), (1, 0, 1), (1, 2, -3), (F(2, 3), F(-1, 2), F(5, 4)))
 
 
 def series(*numbers):
-    return [F(number) for number in numbers] + [F(0)] * (4 - len(numbers))
+    return [F(number) for number in numbers] + [F(0)] * (TERMS - len(numbers))
 
 
 def add(*many):
@@ -27,12 +28,12 @@ def scale(number, x):
 
 
 def mul(x, y):
-    return [sum((x[i] * y[n - i] for i in range(n + 1)), F(0)) for n in range(4)]
+    return [sum((x[i] * y[n - i] for i in range(n + 1)), F(0)) for n in range(TERMS)]
 
 
 def inverse(x):
     found = [1 / x[0]]
-    for n in range(1, 4):
+    for n in range(1, TERMS):
         found.append(-sum((x[i] * found[n - i] for i in range(1, n + 1)), F(0)) / x[0])
     return found
 
@@ -40,7 +41,7 @@ def inverse(x):
 def root(x, first):
     """The root of x that begins with the number first."""
     found = [F(first)]
-    for n in range(1, 4):
+    for n in range(1, TERMS):
         rest = sum((found[i] * found[n - i] for i in range(1, n)), F(0))
         found.append((x[n] - rest) / (2 * found[0]))
     return found
@@ -104,7 +105,7 @@ class RealRays(unittest.TestCase):
             point, way, n = follow(start, pieces, line, rays, (a, b, h))
             image = walk(point, way, series(-y * n / v))
             self.assertEqual([x[1] for x in image], [0, h * (z - y * w / v)])
-            self.assertEqual([(x[0], x[2]) for x in image], [(0, 0), (0, 0)])
+            self.assertEqual([(x[0], x[2], x[4]) for x in image], [(0, 0, 0), (0, 0, 0)])
             third = [x[3] for x in image]
             self.assertEqual(offset(found, v, a, b, h), third)
             self.assertEqual(off(line, text, rays, (a, b, h)), third)
@@ -136,6 +137,26 @@ class RealRays(unittest.TestCase):
         for pieces in SYSTEMS:
             for e in (F(1, 2), F(-3)):
                 self.check("air", pieces, 0, (y, v, z + e * y, w + e * v), shift(0, system_text("air", pieces), RAYS, e))
+
+    def test_many_systems(self):
+        answered = 0
+        for seed in range(60):
+            start, pieces, line, rays = any_system(seed, 5)
+            found = sums(line, system_text(start, pieces), rays)
+            if pieces and len(found) == 7 and parts(start, pieces, line, rays)[1][1] != 0:
+                self.check(start, pieces, line, rays, found)
+                answered += any(found[:5])
+        self.assertGreater(answered, 25)
+
+    def test_stops_put_in_change_nothing(self):
+        lens = [Piece("surface", 1, "flint", F(1, 4), F(-2)), Piece("surface", 2, "air", F(-1, 6), F(1, 2))]
+        stopped = [
+            Piece("stop", F(1, 2), clear="1"), Piece("surface", F(1, 2), "flint", F(1, 4), F(-2)), Piece("stop", 1),
+            Piece("surface", 1, "air", F(-1, 6), F(1, 2)), Piece("stop", 3),
+        ]
+        self.check("air", stopped, 2, RAYS)
+        for turn in TURNS:
+            self.assertEqual(off(2, system_text("air", stopped), RAYS, turn), off(2, system_text("air", lens), RAYS, turn))
 
     def test_light_that_comes_in_glass(self):
         self.check("water", SYSTEMS[1], 0, RAYS)

@@ -2,7 +2,7 @@
 
 import unittest
 
-from helper import RAYS, RUN, call, call_off, call_part, call_shift, spoken
+from helper import RAYS, RUN, call, call_off, call_part, call_petzval, call_shift, spoken
 
 
 class TheRun(unittest.TestCase):
@@ -29,6 +29,9 @@ class TheRun(unittest.TestCase):
 
     def test_off_of_one_along(self):
         self.assertEqual(spoken(call_off(0, RUN, RAYS, ("0", "1", "0"))), "0 -2174311/141600000")
+
+    def test_petzval(self):
+        self.assertEqual(spoken(call_petzval(0, RUN)), "-1/15")
 
     def test_head_on_at_the_first(self):
         head_on = ("1", "-1/10", "0", "1/10")

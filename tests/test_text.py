@@ -2,7 +2,7 @@
 
 import unittest
 
-from helper import RAYS, RUN, call, call_off, call_part, call_shift
+from helper import RAYS, RUN, call, call_off, call_part, call_petzval, call_shift
 
 MARKER = "|"
 AIR = "glass a:1,1,1;"
@@ -26,8 +26,10 @@ ENDS = [STARTED] + [i + 1 for i, token in enumerate(TOKENS) if token == ";" and 
 def answer(text):
     """What sums answers; a text at fault is refused alike by every call."""
     found = call(0, text, RAYS)
-    others = (call_part(0, 0, text, RAYS), call_shift(0, text, RAYS, "1/2"), call_off(0, text, RAYS, ("0", "1", "0")))
-    for other in others:
+    for other in (
+        call_part(0, 0, text, RAYS), call_shift(0, text, RAYS, "1/2"), call_off(0, text, RAYS, ("0", "1", "0")),
+        call_petzval(0, text),
+    ):
         if -3 in (found[0], other[0]) and other != found:
             raise AssertionError(f"not refused alike: {text}")
     return found

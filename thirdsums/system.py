@@ -1,6 +1,7 @@
 """The calls."""
 
 from thirdsums.digits import handed_over
+from thirdsums.field import petzval_sum
 from thirdsums.offset import offsets
 from thirdsums.parts import single_part, sums_of
 from thirdsums.reading import read_system
@@ -53,3 +54,7 @@ def shift(line, t, y, v, z, w, e):
 def off(line, t, y, v, z, w, p, q, h):
     texts = [y, v, z, w, p, q, h]
     return answered(line, t, texts, lambda stations, given: offsets(stations, given[:4], given[4:]))
+
+
+def petzval(line, t):
+    return answered(line, t, [], lambda stations, given: [petzval_sum(stations)])
